@@ -1,0 +1,1 @@
+"""Foldercode: expressions reckoned ahead."""
