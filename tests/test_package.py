@@ -10,11 +10,18 @@ TOP = os.path.dirname(os.path.dirname(os.path.abspath(__file__)))
 PACKAGE = os.path.join(TOP, "foldercode")
 
 ASKING = """
+from foldercode.fold import folded
+from foldercode.notes import read, shown
+from foldercode.reckon import value
 from foldercode.trees import deep, needs, size
 expr = ("name", "first")
 for name in ("q", "w", "ee", "rrr", "sum", "let", "abcdefgh", "z", "a"):
     expr = ("sum", expr, ("let", "own", ("name", name), ("name", "own")))
 print(size(expr), deep(expr), needs(expr))
+numbers = {name: at * at for at, name in enumerate(needs(expr))}
+print(value(expr, numbers))
+print(shown(folded(expr, {"q": 1, "sum": 3, "let": 5, "own": 8})))
+print(read(shown(expr)) == expr)
 """
 
 
@@ -44,7 +51,12 @@ class NothingFromOutside(unittest.TestCase):
                         self.assertEqual(node.module.split(".")[0], "foldercode")
 
     def test_other_runs_tell_the_same(self):
-        wanted = "37 11 ['first', 'q', 'w', 'ee', 'rrr', 'sum', 'let', 'abcdefgh', 'z', 'a']\n"
+        wanted = (
+            "37 11 ['first', 'q', 'w', 'ee', 'rrr', 'sum', 'let', 'abcdefgh', 'z', 'a']\n"
+            "285\n"
+            "(sum (sum (sum (sum (sum (sum (sum (sum first 1) (let own w own)) (let own ee own)) (let own rrr own))"
+            " 8) (let own abcdefgh own)) (let own z own)) (let own a own))\n"
+            "True\n")
         for seed in ("0", "1", "2"):
             with self.subTest(seed=seed):
                 told = subprocess.run(

@@ -5,43 +5,7 @@ import unittest
 
 from foldercode import trees
 from foldercode.trees import DEEPEST, LIMIT, deep, needs, size
-
-WORDS_OF_TWO = ("sum", "less", "times", "part", "rest", "below", "same")
-ONE = ("num", 1)
-X = ("name", "x")
-Y = ("name", "y")
-Z = ("name", "z")
-
-
-def nested(levels, place):
-    """An expression of so many levels, whose deep part stands at a place.
-
-    The places go round the shapes, so that each shape stands in it.
-    """
-    expr = X
-    for level in range(levels - 1):
-        if place == "first":
-            shapes = [("sum", expr, ONE), ("when", expr, ONE, ONE), ("let", "y", expr, ONE)]
-        elif place == "middle":
-            shapes = [("when", ONE, expr, ONE), ("let", "y", expr, ONE)]
-        else:
-            shapes = [("less", ONE, expr), ("when", ONE, ONE, expr), ("let", "y", ONE, expr)]
-        expr = shapes[level % len(shapes)]
-    return expr
-
-
-def summed(leaves):
-    """A sum of these in twos, as flat as can be."""
-    if len(leaves) == 1:
-        return leaves[0]
-    half = len(leaves) // 2
-    return ("sum", summed(leaves[:half]), summed(leaves[half:]))
-
-
-def many_names(count):
-    """So many different names, in an order that isn't that of the alphabet."""
-    signs = "qwertyuiopasdfghjklzxcvbnm"
-    return [signs[k * 7 % 26] + signs[k // 26] for k in range(count)]
+from making import ONE, WORDS_OF_TWO, X, Y, Z, many_names, nested, summed
 
 
 class Interface(unittest.TestCase):
